@@ -3,6 +3,7 @@ package tests
 import (
 	"fmt"
 	"math"
+	"slices"
 	"strings"
 	"testing"
 
@@ -194,5 +195,115 @@ func TestPromise1NewMemory(t *testing.T) {
 	z, three := impl.ReadList("1,2,3")
 	if !one || !two || !three || x[0] != 1 || y[0] != 1 || z[0] != 1 {
 		t.Errorf("a result was changed by way of another one: %v, %v, %v", x, y, z)
+	}
+}
+
+// lists returns all slices of integers among the arguments.
+func (a *scaleArguments) lists() [][]int64 {
+	return [][]int64{a.s.Breaks, a.s.Rates, a.other.Breaks, a.other.Rates, a.pays, a.amounts, a.breaks, a.duesThere}
+}
+
+// toldRaw tells all memory of the lists, to the end of each capacity.
+func (a *scaleArguments) toldRaw() string {
+	var b strings.Builder
+	for _, list := range a.lists() {
+		fmt.Fprint(&b, len(list), list[:cap(list)])
+	}
+	return b.String()
+}
+
+// roomy returns a list with unused capacity that is not 0.
+func roomy(list []int64) []int64 {
+	long := append(slices.Clone(list), 11, 12, 13, 14, 15, 16, 17, 18, 19)
+	return long[:len(list)]
+}
+
+func roomyScale(s impl.Scale) impl.Scale {
+	return impl.Scale{Breaks: roomy(s.Breaks), Rates: roomy(s.Rates)}
+}
+
+// scaleShelves has many arguments for chapter 2, valid ones and others.
+func scaleShelves() []*scaleArguments {
+	const most = impl.MaxCents
+	numbers := []int64{0, 1, 2, 3, 7, 60, 999, 1000, 1001, 5000, 9999, 10000, 10001, 20000, 1000000, most - 1, most, most + 1, -1, -5000, math.MinInt64, math.MaxInt64}
+	lists := append(payLists(), nil, []int64{-1}, []int64{most, most}, []int64{0, 1000}, []int64{0, 100}, []int64{math.MinInt64, math.MaxInt64})
+	scales := append(goodScales(), badScales()...)
+	g := lcg(11)
+	number := func() int64 { return numbers[g.next()%uint64(len(numbers))] }
+	list := func() []int64 { return roomy(lists[g.next()%uint64(len(lists))]) }
+	all := []*scaleArguments{goodArguments()}
+	for i := range 3000 {
+		a := &scaleArguments{cents: number(), net: number(), due: number(), credit: number(), full: number(), start: number(), limit: number(), free: number()}
+		a.rate, a.last, a.round = number(), number(), number()
+		a.quotAbove, a.quotBelow, a.mix, a.above, a.below = number(), number(), number(), number(), number()
+		a.index, a.step, a.workers, a.back = number(), number(), number(), i%2 == 0
+		a.s, a.other = roomyScale(scales[i%len(scales)]), roomyScale(scales[g.next()%uint64(len(scales))])
+		a.pays, a.amounts, a.breaks, a.duesThere = list(), list(), list(), list()
+		all = append(all, a)
+	}
+	for _, s := range goodScales() {
+		a := goodArguments()
+		a.s, a.other = roomyScale(s), roomyScale(scaleWith(0, 0, 3, 5))
+		a.pays, a.amounts, a.breaks, a.duesThere = roomy(a.pays), roomy(a.amounts), roomy(a.breaks), roomy(a.duesThere)
+		all = append(all, a)
+	}
+	return all
+}
+
+func TestPromise1Chapter2(t *testing.T) {
+	for _, a := range scaleShelves() {
+		before := a.toldRaw()
+		for _, c := range callsOfChapter2() {
+			first, second := c.do(a), c.do(a)
+			if told(first...) != told(second...) {
+				t.Fatalf("%s: %v, and then %v", c.name, first, second)
+			}
+			if first[len(first)-1] == false && !failed(first) {
+				t.Fatalf("%s: got %v with false", c.name, first)
+			}
+		}
+		if after := a.toldRaw(); after != before {
+			t.Fatalf("arguments have changed from %s to %s", before, after)
+		}
+		isTrue(t, "SameScale of a scale and itself", impl.SameScale(a.s, a.s))
+	}
+}
+
+// listsOf returns all slices of integers among results.
+func listsOf(values []any) [][]int64 {
+	var all [][]int64
+	for _, v := range values {
+		switch x := v.(type) {
+		case []int64:
+			all = append(all, x)
+		case impl.Scale:
+			all = append(all, x.Breaks, x.Rates)
+		}
+	}
+	return all
+}
+
+// Every slice that chapter 2 returns is new: when it is overwritten up to its
+// capacity, no argument changes, nor any other slice of the result.
+func TestPromise1NewMemoryOfChapter2(t *testing.T) {
+	for _, a := range scaleShelves() {
+		before := a.toldRaw()
+		for _, c := range callsOfChapter2() {
+			made := c.do(a)
+			want := fmt.Sprint(made)
+			lists := listsOf(made)
+			for i := range lists {
+				others := fmt.Sprint(lists[i+1:])
+				for j := range lists[i][:cap(lists[i])] {
+					lists[i][:cap(lists[i])][j] = -77
+				}
+				if fmt.Sprint(lists[i+1:]) != others {
+					t.Fatalf("%s: slices of a result share memory", c.name)
+				}
+			}
+			if again := fmt.Sprint(c.do(a)); again != want || a.toldRaw() != before {
+				t.Fatalf("%s: got %s, but %s when the result was overwritten", c.name, want, again)
+			}
+		}
 	}
 }
