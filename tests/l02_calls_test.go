@@ -1,9 +1,7 @@
 package tests
 
 import (
-	"fmt"
 	"math"
-	"reflect"
 	"slices"
 	"testing"
 
@@ -23,33 +21,7 @@ type scaleArguments struct {
 	back                             bool
 }
 
-// scaleCall is a function of chapter 2 with the names of the arguments that it takes.
-type scaleCall struct {
-	name  string
-	takes []string
-	do    func(a *scaleArguments) []any
-}
-
-func results(values ...any) []any { return values }
-
-// failed reports whether the last result is false and all others are zero values.
-func failed(values []any) bool {
-	for _, v := range values {
-		x := reflect.ValueOf(v)
-		if s, ok := v.(impl.Scale); ok {
-			if len(s.Breaks) > 0 || len(s.Rates) > 0 {
-				return false
-			}
-		} else if x.Kind() == reflect.Slice {
-			if x.Len() > 0 {
-				return false
-			}
-		} else if !x.IsZero() {
-			return false
-		}
-	}
-	return true
-}
+type scaleCall = argumentCall[*scaleArguments]
 
 func callsOfChapter2() []scaleCall {
 	return []scaleCall{
@@ -132,23 +104,6 @@ func badScales() []impl.Scale {
 	}
 }
 
-// spoiledInt has the numbers just outside of limits, and the outmost ones.
-func spoiledInt(field func(a *scaleArguments) *int64, least, most int64) []func(*scaleArguments) {
-	var all []func(*scaleArguments)
-	for _, n := range []int64{least - 1, most + 1, math.MinInt64, math.MaxInt64} {
-		all = append(all, func(a *scaleArguments) { *field(a) = n })
-	}
-	return all
-}
-
-func spoiledList(field func(a *scaleArguments) *[]int64, lists ...[]int64) []func(*scaleArguments) {
-	var all []func(*scaleArguments)
-	for _, list := range append(lists, nil, []int64{}) {
-		all = append(all, func(a *scaleArguments) { *field(a) = slices.Clone(list) })
-	}
-	return all
-}
-
 // spoilings has for each argument changes by which it is not as it must be.
 func spoilings() map[string][]func(*scaleArguments) {
 	const most = impl.MaxCents
@@ -173,13 +128,13 @@ func spoilings() map[string][]func(*scaleArguments) {
 		"index":     spoiledInt(func(a *scaleArguments) *int64 { return &a.index }, -5000, 10000),
 		"step":      spoiledInt(func(a *scaleArguments) *int64 { return &a.step }, 1, 1000000),
 		"workers":   spoiledInt(func(a *scaleArguments) *int64 { return &a.workers }, 1, impl.MaxWorkers),
-		"pays": spoiledList(func(a *scaleArguments) *[]int64 { return &a.pays }, many,
+		"pays": spoiledNone(func(a *scaleArguments) *[]int64 { return &a.pays }, many,
 			[]int64{-1}, []int64{5, -1, 5}, []int64{most + 1}, []int64{most, 1}, []int64{math.MaxInt64, math.MaxInt64}, []int64{math.MinInt64, math.MinInt64}),
-		"amounts": spoiledList(func(a *scaleArguments) *[]int64 { return &a.amounts }, many,
+		"amounts": spoiledNone(func(a *scaleArguments) *[]int64 { return &a.amounts }, many,
 			[]int64{-1}, []int64{5, 5, -1}, []int64{most + 1, 1}, []int64{1, math.MaxInt64}, []int64{math.MinInt64}),
-		"breaks": spoiledList(func(a *scaleArguments) *[]int64 { return &a.breaks },
+		"breaks": spoiledNone(func(a *scaleArguments) *[]int64 { return &a.breaks },
 			[]int64{1, 1000}, []int64{0, 0}, []int64{0, -1}, []int64{0, most + 1}, []int64{0}, []int64{0, 1000, 2000}),
-		"duesThere": spoiledList(func(a *scaleArguments) *[]int64 { return &a.duesThere },
+		"duesThere": spoiledNone(func(a *scaleArguments) *[]int64 { return &a.duesThere },
 			[]int64{1, 101}, []int64{0, -100}, []int64{0, 1001}, []int64{0, most + 1}, []int64{0}, []int64{0, 100, 200}, []int64{0, math.MaxInt64}, []int64{-100, 0}),
 	}
 	for _, bad := range badScales() {
@@ -200,31 +155,8 @@ func flatArguments() *scaleArguments {
 // Every function fails for each argument that is not as its section requires,
 // with zero values, and succeeds for good ones.
 func TestChapter2InvalidArguments(t *testing.T) {
-	spoilAll(t, goodArguments)
-	spoilAll(t, flatArguments)
-}
-
-func spoilAll(t *testing.T, base func() *scaleArguments) {
-	for _, c := range callsOfChapter2() {
-		good := c.do(base())
-		if good[len(good)-1] != true {
-			t.Errorf("%s: got %v for good arguments", c.name, good)
-		}
-		for argument, changes := range spoilings() {
-			for i, change := range changes {
-				a := base()
-				change(a)
-				got := c.do(a)
-				if !slices.Contains(c.takes, argument) {
-					if fmt.Sprint(got) != fmt.Sprint(good) {
-						t.Errorf("%s: it does not take %s, but got %v", c.name, argument, got)
-					}
-				} else if !failed(got) {
-					t.Errorf("%s with %s spoiled (%d): got %v, want zero values", c.name, argument, i, got)
-				}
-			}
-		}
-	}
+	spoilAll(t, callsOfChapter2(), spoilings(), goodArguments)
+	spoilAll(t, callsOfChapter2(), spoilings(), flatArguments)
 }
 
 // Limits can be reached exactly: every function succeeds at them.
@@ -249,15 +181,7 @@ func TestChapter2OutmostArguments(t *testing.T) {
 			a.pays, a.amounts = slices.Repeat([]int64{most / 3600}, impl.MaxPays), slices.Repeat([]int64{most}, impl.MaxPays)
 		},
 	}
-	for i, change := range outmost {
-		for _, c := range callsOfChapter2() {
-			a := goodArguments()
-			change(a)
-			if got := c.do(a); got[len(got)-1] != true {
-				t.Errorf("%s with the outmost arguments %d: got %v", c.name, i, got)
-			}
-		}
-	}
+	allSucceed(t, callsOfChapter2(), outmost, goodArguments)
 }
 
 func TestChapter2Limits(t *testing.T) {

@@ -3,6 +3,7 @@ package tests
 import (
 	"fmt"
 	"math"
+	"reflect"
 	"slices"
 	"strings"
 	"testing"
@@ -251,9 +252,28 @@ func scaleShelves() []*scaleArguments {
 }
 
 func TestPromise1Chapter2(t *testing.T) {
+	returnSame(t, callsOfChapter2(), scaleShelves())
 	for _, a := range scaleShelves() {
+		isTrue(t, "SameScale of a scale and itself", impl.SameScale(a.s, a.s))
+	}
+}
+
+func TestPromise1NewMemoryOfChapter2(t *testing.T) {
+	returnNew(t, callsOfChapter2(), scaleShelves())
+}
+
+// rawTeller tells all memory of arguments, to the end of each capacity.
+type rawTeller interface {
+	toldRaw() string
+}
+
+// returnSame checks that functions return equal results for equal arguments,
+// zero values if they fail, and modify no argument.
+func returnSame[A rawTeller](t *testing.T, calls []argumentCall[A], all []A) {
+	t.Helper()
+	for _, a := range all {
 		before := a.toldRaw()
-		for _, c := range callsOfChapter2() {
+		for _, c := range calls {
 			first, second := c.do(a), c.do(a)
 			if told(first...) != told(second...) {
 				t.Fatalf("%s: %v, and then %v", c.name, first, second)
@@ -265,38 +285,58 @@ func TestPromise1Chapter2(t *testing.T) {
 		if after := a.toldRaw(); after != before {
 			t.Fatalf("arguments have changed from %s to %s", before, after)
 		}
-		isTrue(t, "SameScale of a scale and itself", impl.SameScale(a.s, a.s))
 	}
 }
 
-// listsOf returns all slices of integers among results.
-func listsOf(values []any) [][]int64 {
-	var all [][]int64
+// slicesOf returns all slices among results, also those in structs.
+func slicesOf(values []any) []reflect.Value {
+	var all []reflect.Value
 	for _, v := range values {
-		switch x := v.(type) {
-		case []int64:
+		x := reflect.ValueOf(v)
+		switch x.Kind() {
+		case reflect.Slice:
 			all = append(all, x)
-		case impl.Scale:
-			all = append(all, x.Breaks, x.Rates)
+		case reflect.Struct:
+			for i := range x.NumField() {
+				all = append(all, slicesOf([]any{x.Field(i).Interface()})...)
+			}
 		}
 	}
 	return all
 }
 
-// Every slice that chapter 2 returns is new: when it is overwritten up to its
-// capacity, no argument changes, nor any other slice of the result.
-func TestPromise1NewMemoryOfChapter2(t *testing.T) {
-	for _, a := range scaleShelves() {
+// overwrite changes all numbers of a value, those of a slice up to its capacity.
+func overwrite(x reflect.Value) {
+	switch x.Kind() {
+	case reflect.Int64:
+		x.SetInt(-77)
+	case reflect.Float32:
+		x.SetFloat(-77)
+	case reflect.Struct:
+		for i := range x.NumField() {
+			overwrite(x.Field(i))
+		}
+	case reflect.Slice:
+		whole := x.Slice(0, x.Cap())
+		for i := range whole.Len() {
+			overwrite(whole.Index(i))
+		}
+	}
+}
+
+// returnNew checks that each slice of a result is new: when it is overwritten,
+// no argument changes, nor any other slice of the result.
+func returnNew[A rawTeller](t *testing.T, calls []argumentCall[A], all []A) {
+	t.Helper()
+	for _, a := range all {
 		before := a.toldRaw()
-		for _, c := range callsOfChapter2() {
+		for _, c := range calls {
 			made := c.do(a)
 			want := fmt.Sprint(made)
-			lists := listsOf(made)
+			lists := slicesOf(made)
 			for i := range lists {
 				others := fmt.Sprint(lists[i+1:])
-				for j := range lists[i][:cap(lists[i])] {
-					lists[i][:cap(lists[i])][j] = -77
-				}
+				overwrite(lists[i])
 				if fmt.Sprint(lists[i+1:]) != others {
 					t.Fatalf("%s: slices of a result share memory", c.name)
 				}
