@@ -43,6 +43,15 @@ func (g *lcg) one(numbers ...int64) int64 {
 	return numbers[g.below(int64(len(numbers)-1))]
 }
 
+// list returns 1 to count numbers from 0 to most.
+func (g *lcg) list(count, most int64) []int64 {
+	var all []int64
+	for range 1 + g.below(count-1) {
+		all = append(all, g.below(most))
+	}
+	return all
+}
+
 func sumOf(list []int64) int64 {
 	sum := int64(0)
 	for _, n := range list {
@@ -188,15 +197,19 @@ func goodWeights() [][]int64 {
 	}
 	g := lcg(6)
 	for range 100 {
-		most := g.one(1, 3, 100, impl.MaxSums)
-		list := []int64{1 + g.below(most-1)}
-		for range g.below(impl.MaxParts - 1) {
-			list = append(list, g.below(most)*g.one(0, 1, 1))
-		}
-		slices.Reverse(list)
-		all = append(all, list)
+		all = append(all, g.weights(impl.MaxParts, g.one(1, 3, 100, impl.MaxSums)))
 	}
 	return all
+}
+
+// weights returns 1 to count weights from 0 to most, the last one greater than 0.
+func (g *lcg) weights(count, most int64) []int64 {
+	list := []int64{1 + g.below(most-1)}
+	for range g.below(count - 1) {
+		list = append(list, g.below(most)*g.one(0, 1, 1))
+	}
+	slices.Reverse(list)
+	return list
 }
 
 // sums has amounts to split.

@@ -288,6 +288,21 @@ func returnSame[A rawTeller](t *testing.T, calls []argumentCall[A], all []A) {
 	}
 }
 
+// someSucceed checks that each function succeeds for some of many arguments,
+// and fails for others.
+func someSucceed[A any](t *testing.T, calls []argumentCall[A], all []A) {
+	t.Helper()
+	for _, c := range calls {
+		succeeded := 0
+		for _, a := range all {
+			if got := c.do(a); got[len(got)-1] == true {
+				succeeded++
+			}
+		}
+		isTrue(t, fmt.Sprintf("%s succeeds for some of many arguments: %d", c.name, succeeded), succeeded > 100 && succeeded < len(all))
+	}
+}
+
 // slicesOf returns all slices among results, also those in structs.
 func slicesOf(values []any) []reflect.Value {
 	var all []reflect.Value
