@@ -28,6 +28,10 @@ func failed(values []any) bool {
 			if len(s.Breaks) > 0 || len(s.Rates) > 0 {
 				return false
 			}
+		} else if r, ok := v.(impl.Rule); ok {
+			if len(r.Ifs) > 0 || r.Head != 0 || r.From != 0 || r.To != 0 || r.Rank != 0 {
+				return false
+			}
 		} else if x.Kind() == reflect.Slice {
 			if x.Len() > 0 {
 				return false

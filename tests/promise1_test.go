@@ -303,7 +303,8 @@ func someSucceed[A any](t *testing.T, calls []argumentCall[A], all []A) {
 	}
 }
 
-// slicesOf returns all slices among results, also those in structs.
+// slicesOf returns all slices among results, also those in structs, and behind
+// a slice of structs those in them.
 func slicesOf(values []any) []reflect.Value {
 	var all []reflect.Value
 	for _, v := range values {
@@ -311,6 +312,9 @@ func slicesOf(values []any) []reflect.Value {
 		switch x.Kind() {
 		case reflect.Slice:
 			all = append(all, x)
+			for i := 0; i < x.Len() && x.Index(i).Kind() == reflect.Struct; i++ {
+				all = append(all, slicesOf([]any{x.Index(i).Interface()})...)
+			}
 		case reflect.Struct:
 			for i := range x.NumField() {
 				all = append(all, slicesOf([]any{x.Field(i).Interface()})...)
@@ -320,7 +324,8 @@ func slicesOf(values []any) []reflect.Value {
 	return all
 }
 
-// overwrite changes all numbers of a value, those of a slice up to its capacity.
+// overwrite changes all numbers of a value, those of a slice up to its capacity,
+// but not those of slices in structs.
 func overwrite(x reflect.Value) {
 	switch x.Kind() {
 	case reflect.Int64:
@@ -329,7 +334,9 @@ func overwrite(x reflect.Value) {
 		x.SetFloat(-77)
 	case reflect.Struct:
 		for i := range x.NumField() {
-			overwrite(x.Field(i))
+			if x.Field(i).Kind() != reflect.Slice {
+				overwrite(x.Field(i))
+			}
 		}
 	case reflect.Slice:
 		whole := x.Slice(0, x.Cap())
